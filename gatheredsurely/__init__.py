@@ -1,0 +1,1 @@
+"""Robots on a ring that are to gather: surely, or never."""
