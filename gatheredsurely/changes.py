@@ -1,16 +1,15 @@
 """The calls that change the world. Each checks all its refusals, in their order, before it changes anything."""
 
-from gatheredsurely.rings import names_like, rank_of
-from gatheredsurely.views import is_even_handed, view_of
+from gatheredsurely.refusals import refusal_of_done, refusal_of_mode, refusal_of_place
+from gatheredsurely.rings import name_of, names_like
 from gatheredsurely.state import NO_PLACE, NOT_ALLOWED, NOT_THERE, NOTHING_TOLD, TOO_MANY
+from gatheredsurely.views import view_of
 
 LEAST_PLACES = 3
 MOST_PLACES = 7
 MOST_ROBOTS = 4
 MOST_VIEWS = 24
 LAST_EYES = 2
-LAST_DONE = 2
-LAST_MODE = 2
 
 
 def begin_ring(world, places, eyes):
@@ -44,28 +43,10 @@ def change_eyes(world, eyes):
     return [were]
 
 
-def refusal_of_place(world, place):
-    """Why there is no view from this place, or None if there is one."""
-    if place >= len(world.ring):
-        return NO_PLACE
-    if world.ring[place] == 0:
-        return NOT_THERE
-    return None
-
-
-def can_be_done(world, place, done):
-    if done == LAST_DONE:
-        # Who is even-handed has no other side to go by.
-        return not is_even_handed(world.ring, world.eyes, place)
-    return done < LAST_DONE
-
-
 def tell_view(world, place, done):
-    refusal = refusal_of_place(world, place)
+    refusal = refusal_of_done(world, place, done)
     if refusal is not None:
         return [refusal]
-    if not can_be_done(world, place, done):
-        return [NOT_ALLOWED]
     view = view_of(world.ring, world.eyes, place)
     if view not in world.rule and len(world.rule) >= MOST_VIEWS:
         return [TOO_MANY]
@@ -86,8 +67,9 @@ def untell_view(world, place):
 
 
 def change_mode(world, mode):
-    if mode > LAST_MODE:
-        return [NOT_ALLOWED]
+    refusal = refusal_of_mode(mode)
+    if refusal is not None:
+        return [refusal]
     was = world.mode
     world.mode = mode
     return [was]
@@ -97,7 +79,7 @@ def jump_to_name(world, number):
     names = names_like(world.ring)
     if number >= len(names):
         return [NOT_THERE]
-    was = rank_of(world.ring)
+    was = names.index(name_of(world.ring))
     world.ring = names[number]
     return [was]
 

@@ -40,3 +40,24 @@ def rank_of(ring):
 def all_at_one_place(ring):
     # A ring without robots counts, too: its fullest place holds all none of them.
     return max(ring) == sum(ring)
+
+
+def all_apart(ring):
+    return max(ring) <= 1
+
+
+def is_own_turning(ring):
+    """Whether some turning but by 0 leaves the ring as it is."""
+    return any([turned(ring, place) == ring for place in range(1, len(ring))])
+
+
+def leaves_a_place(places, place):
+    """Whether mirroring at this place leaves some place where it is."""
+    return any([(place - here) % places == here for here in range(places)])
+
+
+def is_own_mirror_between(ring):
+    """Whether some mirroring that leaves no place where it is leaves the ring as it is."""
+    places = len(ring)
+    between = [place for place in range(places) if not leaves_a_place(places, place)]
+    return any([mirrored(ring, place) == ring for place in between])

@@ -3,6 +3,7 @@
 from gatheredsurely.changes import answer_change, is_change
 from gatheredsurely.questions import answer_question, is_question
 from gatheredsurely.state import NOT_BEGUN, World, is_begun
+from gatheredsurely.surveys import answer_survey
 
 BEGIN = 0
 
@@ -17,8 +18,7 @@ def answer_call(world, call, arguments):
         return answer_change(world, call, arguments)
     if is_question(call):
         return answer_question(world, call)
-    # Failing is plainer than an answer that would look like a promise kept.
-    raise NotImplementedError(f"call {call} is not answered yet")
+    return answer_survey(world, call, arguments)
 
 
 def answers(calls):

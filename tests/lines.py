@@ -57,3 +57,25 @@ def puts(ring):
 
 def begun(ring, eyes=0):
     return [("begin", len(ring), eyes), *puts(ring)]
+
+
+def ruled(ring, tells, mode=0, eyes=0):
+    """The calls that end on this ring; tells: rings, and what is told there at which places."""
+    line = [("begin", len(ring), eyes), ("at", mode)]
+    now = [0] * len(ring)
+    for other, told in [*tells, (ring, {})]:
+        # Robots are taken away ahead of others that are put, so that there are never more than four.
+        for place in sorted(range(len(ring)), key=lambda place: other[place] - now[place]):
+            if other[place] != now[place]:
+                line.append(("put", place, other[place]))
+        now = list(other)
+        line += [("tell", place, done) for place, done in told.items()]
+    return line
+
+
+def asked(line, *calls):
+    """What these calls answer behind a line in which nothing is refused."""
+    found = ask(*line, *calls)
+    if any(answer[0] < 0 for answer in found[:len(line)]):
+        raise ValueError(f"the line is not as meant: {found}")
+    return found[len(line):]

@@ -9,7 +9,8 @@ from refusals import BEFORE, PROBES, Leaving
 
 class Probes(Leaving):
     def test_the_probes_see_what_is_there(self):
-        self.assertEqual([[5, 1, 2, 0, 0, 0], [1], [0], [1], [1], [1], [2], [1]], ask(*BEFORE, *PROBES)[-len(PROBES):])
+        self.assertEqual([[5, 1, 2, 0, 0, 0], [1], [0], [1], [1], [2, 0, 1], [5, 1, 2, 3, 0], [1], [2], [1]],
+                         ask(*BEFORE, *PROBES)[-len(PROBES):])
 
 
 class Begin(Leaving):

@@ -1,27 +1,13 @@
 """done, sure, longest, and the corners that the document names."""
 
-import random
 import unittest
 
-import model
-from lines import ask, begun, last
+from lines import ask, asked, begun, last, ruled
 
 
 def gathered(ring, tells, mode, eyes=0):
     """What done, sure and longest answer on this ring; tells: rings, and what is told there at which places."""
-    line = [("begin", len(ring), eyes), ("at", mode)]
-    now = [0] * len(ring)
-    for other, told in [*tells, (ring, {})]:
-        # Robots are taken away ahead of others that are put, so that there are never more than four.
-        for place in sorted(range(len(ring)), key=lambda place: other[place] - now[place]):
-            if other[place] != now[place]:
-                line.append(("put", place, other[place]))
-        now = list(other)
-        line += [("tell", place, done) for place, done in told.items()]
-    found = ask(*line, "ring", "done", "sure", "longest")
-    if found[-4] != [len(ring), *ring] or any(answer[0] < 0 for answer in found[:-4]):
-        raise ValueError(f"the line is not as meant: {found}")
-    return [answer[0] for answer in found[-3:]]
+    return [answer[0] for answer in asked(ruled(ring, tells, mode, eyes), "done", "sure", "longest")]
 
 
 GATHERED = [1, 1, 0]
@@ -180,110 +166,6 @@ class Longest(unittest.TestCase):
         once = ask(*line, "done", "sure", "longest", "rank", "ring")[-5:]
         twice = ask(*line, *["done", "sure", "longest", "rank", "ring"] * 2)[-10:]
         self.assertEqual(once * 2, twice)
-
-
-def rules_of(places, robots, eyes):
-    """All rules of all views of so many robots, as lists of pairs of a view and what's done."""
-    views = {}
-    for ring in model.names(places, robots):
-        for place, count in enumerate(ring):
-            if count:
-                even = model.even(ring, eyes, place)
-                views[model.lesser(ring, eyes, place)] = (ring, place, range(2 if even else 3))
-    rules = [[]]
-    for view, (ring, place, choices) in views.items():
-        rules = [[*rule, (ring, place, done)] for rule in rules for done in choices]
-    return rules
-
-
-def line_of(rule, places, robots, eyes, mode):
-    names = model.names(places, robots)
-    line = [("begin", places, eyes), ("put", 0, robots), ("at", mode)]
-    at = None
-    for ring, place, done in rule:
-        if done:
-            if ring != at:
-                line.append(("jump", names.index(ring)))
-                at = ring
-            line.append(("tell", place, done))
-    return line
-
-
-def random_rule(chance, places, robots, eyes):
-    """A rule that fits in a line; first told of are the rings that have most robots at one place."""
-    rule = []
-    told = set()
-    for ring in sorted(model.names(places, robots)[1:], key=max, reverse=True)[:12]:
-        for place, count in enumerate(ring):
-            view = model.lesser(ring, eyes, place)
-            if count and view not in told and len(rule) < 20:
-                told.add(view)
-                choices = (0, 1) if model.even(ring, eyes, place) else (0, 0, 0, 1, 2, 2, 2)
-                rule.append((ring, place, chance.choice(choices)))
-    return rule
-
-
-class EveryRule(unittest.TestCase):
-    """All rules on small rings, some on larger ones.
-
-    Each name's answers are the model's, and what the document says holds does.
-    """
-
-    def assert_rule(self, rule, places, robots, eyes):
-        names = model.names(places, robots)
-        told = {model.lesser(ring, eyes, place): done for ring, place, done in rule if done}
-        longest = []
-        for mode in range(3):
-            wanted = model.gather(places, robots, eyes, told, mode)
-            line = line_of(rule, places, robots, eyes, mode)
-            found = {}
-            for rank, name in enumerate(names):
-                answers = ask(*line, ("jump", rank), "done", "sure", "longest")[-3:]
-                self.assertEqual([int(model.rests(name, eyes, told))], answers[0])
-                self.assertEqual([int(name in wanted)], answers[1])
-                self.assertEqual([wanted.get(name, -33)], answers[2])
-                found[name] = answers[2][0]
-            self.assert_fewer_follow(found, eyes, told, mode)
-            longest.append(found)
-        self.assert_some_is_hardest(*longest)
-        return max(max(found.values()) for found in longest)
-
-    def assert_fewer_follow(self, found, eyes, told, mode):
-        for name, moves in found.items():
-            if moves >= 0:
-                for after in model.follow(name, eyes, told, mode):
-                    self.assertTrue(0 <= found[model.name(after)] < moves)
-
-    def assert_some_is_hardest(self, one, some, every):
-        for name, moves in some.items():
-            if moves >= 0:
-                self.assertTrue(0 <= one[name] <= moves and 0 <= every[name] <= moves)
-
-    def test_two_robots(self):
-        for places in range(3, 7):
-            for eyes in range(3):
-                for rule in rules_of(places, 2, eyes):
-                    self.assert_rule(rule, places, 2, eyes)
-
-    def test_three_robots_on_three_places(self):
-        for eyes in range(3):
-            for rule in rules_of(3, 3, eyes):
-                self.assert_rule(rule, 3, 3, eyes)
-
-    def test_some_rules_on_larger_rings(self):
-        chance = random.Random(7)
-        most = []
-        for turn in range(8):
-            for places, robots in [(5, 3), (5, 4), (6, 4), (7, 3)]:
-                eyes = chance.choice((0, 0, 1, 2))
-                most.append(self.assert_rule(random_rule(chance, places, robots, eyes), places, robots, eyes))
-        # Rules by which nothing gathers would show nothing.
-        self.assertGreaterEqual(max(most), 3)
-
-    def test_one_robot(self):
-        for places in range(3, 8):
-            for rule in rules_of(places, 1, 0):
-                self.assert_rule(rule, places, 1, 0)
 
 
 if __name__ == "__main__":

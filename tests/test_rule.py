@@ -2,37 +2,9 @@
 
 import unittest
 
-import model
 from lines import LARGEST, ask, begun, last
 from refusals import Leaving
-
-
-def full_rule():
-    """A line on 7 places that tells of 24 views, and ends on a ring with a robot whose view isn't told of.
-
-    Also that robot's place, and a place of the ring told of first.
-    """
-    line = [("begin", 7, 0), ("put", 0, 4)]
-    told = set()
-    # The names with the most views first, so that the line stays short.
-    names = model.names(7, 4)
-    order = sorted(range(len(names)), key=lambda rank: -len(views_of(names[rank])))
-    first = None
-    for rank in order:
-        line.append(("jump", rank))
-        for view, place in views_of(names[rank]).items():
-            if view in told:
-                continue
-            if len(told) == 24:
-                return line, place, first
-            first = first or (rank, place)
-            told.add(view)
-            line.append(("tell", place, 1))
-    raise ValueError("there are not so many views")
-
-
-def views_of(ring):
-    return {model.lesser(ring, 0, place): place for place, count in enumerate(ring) if count}
+from rules import full_rule
 
 
 class Tell(Leaving):
